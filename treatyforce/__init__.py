@@ -1,0 +1,1 @@
+"""In force: who is bound by a treaty, and on which days."""
