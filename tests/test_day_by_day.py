@@ -3,7 +3,7 @@
 import random
 import unittest
 
-from lines import BOUND, DAY, ENDS, LACKS, NOTICE, PARTIES, RATIFIED, RATIFY, START, TOP, ask
+from lines import NOTICE, RATIFY, ask, drawn_line
 
 
 class Walked:
@@ -54,13 +54,7 @@ class Walked:
         return [0]
 
     def refused(self, i, d):
-        if i not in range(self.terms[0]):
-            return [-2]
-        if d > 10000:
-            return [-22]
-        if any(when > d for state, when, what in self.done):
-            return [-13]
-        return None
+        return [-2] if i not in range(self.terms[0]) else self.late(d)
 
     def call1(self, i, d):
         if self.refused(i, d):
@@ -113,42 +107,87 @@ class Walked:
         many, states = self.call7(d)
         return [max(0, self.terms[1] - many), self.terms[2] & ~states]
 
+    def bound_by_day(self):
+        """For each day the list of those who are bound; from the last day of the list on nothing changes."""
+        begins, ends = self.span()
+        rows = []
+        for day, row in enumerate(self.rows()):
+            force = begins is not None and day >= begins and (ends is None or day < ends)
+            rows.append([state for state, one in enumerate(row) if one is not None and force])
+        return rows
 
-def drawn_start(lot, n, most):
-    return (START, n, lot.randint(1, n), lot.randrange(2 ** n) & lot.randrange(2 ** n), lot.randint(0, most),
-            lot.randint(1, most), lot.randint(0, n))
+    def call9(self, i):
+        if i >= self.terms[0]:
+            return [-2]
+        days = [day for day, bound in enumerate(self.bound_by_day()) if i in bound]
+        return days[:1] or [-33]
 
+    def call10(self, i):
+        since = self.call9(i)
+        if since[0] < 0:
+            return since
+        days = [day for day, bound in enumerate(self.bound_by_day()) if day > since[0] and i not in bound]
+        return days[:1] or [-61]
 
-def drawn_wrong_start(lot, n, most):
-    terms = list(drawn_start(lot, n, most))
-    terms[lot.randint(1, 6)] = lot.choice([1024, TOP])
-    return tuple(terms)
+    def late(self, d):
+        return [-22] if d > 10000 else [-13] if any(when > d for state, when, what in self.done) else None
 
+    def call11(self, s, d):
+        states = [state for state in range(32) if s >> state & 1]
+        if any(state >= self.terms[0] for state in states):
+            return [-22]
+        if self.late(d):
+            return self.late(d)
+        row = self.row(d)
+        if any(row[state] not in (None, 'in') for state in states):
+            return [-16]
+        other = Walked()
+        other.terms = self.terms
+        other.done = self.done + [(state, d, RATIFY) for state in states if row[state] is None]
+        return other.call3()
 
-def drawn_line(lot, most, length):
-    """A line of calls with days that mostly go on slowly, waits and notices of at most so many days."""
-    n = lot.randint(1, lot.choice([2, 4, 10]))
-    calls = [drawn_start(lot, n, most)]
-    day = 0
-    while len(calls) < length:
-        i = min(lot.randrange(n + 1), lot.randrange(n + 1))
-        day += lot.choice([0, 0, 0, 1, 1, 2, lot.randint(0, most)])
-        near = max(0, day + lot.randint(-2 * most, 2 * most))
-        seen = lot.choice([near, near, near, day, day, 10001, TOP])
-        kind = lot.choice([1, 1, 1, 1, 2, 2, 2, 3, 4, 4, 5, 5, 6, 6, 7, 8])
-        if lot.randrange(100) == 0:
-            calls.append(lot.choice([drawn_start, drawn_wrong_start])(lot, n, most))
-        elif kind in (RATIFY, NOTICE):
-            late = lot.choice([day] * 20 + [max(0, day - 1), 10001])
-            calls.append((kind, i, late))
-        elif kind in (DAY, ENDS):
-            calls.append((kind,))
-        elif kind == BOUND:
-            calls.append((kind, i, seen))
-        else:
-            assert kind in (PARTIES, RATIFIED, LACKS)
-            calls.append((kind, seen))
-    return calls
+    def call12(self, d):
+        if self.late(d):
+            return self.late(d)
+        if self.span()[0] is not None:
+            return [-17]
+        n, need, named = self.terms[:3]
+        have = self.call7(d)[1]
+        tries = [more for more in range(2 ** n)
+                 if more & have == 0 and (more | have).bit_count() >= need and (more | have) & named == named]
+        best = min(tries, key=lambda more: (more.bit_count(), more))
+        return [best.bit_count(), best]
+
+    def call13(self, i):
+        if i >= self.terms[0]:
+            return [-2]
+        rows = self.bound_by_day()
+        return [sum(i in rows[min(day, len(rows) - 1)] for day in range(10001))]
+
+    def call14(self):
+        if not self.done:
+            return [-33]
+        days = [when for state, when, what in self.done]
+        days += [when + self.terms[4] for state, when, what in self.done if what == NOTICE]
+        days += [day for day in self.span() if day is not None]
+        rows = self.bound_by_day()
+        day = max(sorted(days), key=lambda one: len(rows[one]))
+        return [len(rows[day]), day]
+
+    def call15(self, k):
+        if k >= len(self.done):
+            return [-2]
+        state, when, what = self.done[k]
+        return [1 if what == RATIFY else 0, state, when]
+
+    def call16(self):
+        if not self.done:
+            return [-2]
+        self.done = self.done[:-1]
+        return [len(self.done)]
+
+    def call17(self):
+        return [len(self.done), *self.terms, self.done[-1][1] if self.done else 0]
 
 
 class DayByDay(unittest.TestCase):
@@ -159,7 +198,7 @@ class DayByDay(unittest.TestCase):
 
     def test_short_spans(self):
         lot = random.Random(1)
-        for _ in range(1000):
+        for _ in range(600):
             self.check(drawn_line(lot, lot.choice([1, 2, 4, 8]), 60))
 
     def test_many_deeds(self):
@@ -171,3 +210,8 @@ class DayByDay(unittest.TestCase):
         lot = random.Random(2)
         for _ in range(10):
             self.check(drawn_line(lot, 365, 60))
+
+    def test_about_the_last_day(self):
+        lot = random.Random(4)
+        for _ in range(8):
+            self.check(drawn_line(lot, lot.choice([4, 20]), 40, 9970))

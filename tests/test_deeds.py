@@ -2,17 +2,9 @@
 
 import unittest
 
-from lines import NOTICE, RATIFIED, RATIFY, START, TOP, ask, last, looks
+from lines import NOTICE, RATIFIED, RATIFY, START, TOP, ask, last, looks, twenty_four
 
 TERMS = (START, 3, 2, 0, 5, 10, 1)
-
-
-def twenty_four(n):
-    """24 deeds, notice 1: each day state 0 ratifies and gives notice; the last of them is on day 11."""
-    calls = [(START, n, 1, 0, 0, 1, 0)]
-    for day in range(12):
-        calls += [(RATIFY, 0, day), (NOTICE, 0, day)]
-    return calls
 
 
 class Ratify(unittest.TestCase):

@@ -8,13 +8,23 @@ from treatyforce.record import Deed
 from treatyforce.record import Treaty
 from treatyforce.record import bound_states
 from treatyforce.record import end_day
+from treatyforce.record import fewest_lacking
 from treatyforce.record import force_day
 from treatyforce.record import has_ratified
+from treatyforce.record import is_in_set
 from treatyforce.record import is_on_notice
 from treatyforce.record import last_day
 from treatyforce.record import out_day
+from treatyforce.record import ratified_besides
 from treatyforce.record import ratified_states
 from treatyforce.record import set_number
+from treatyforce.record import set_terms
+from treatyforce.record import terms_of
+from treatyforce.stretches import bound_rows
+from treatyforce.stretches import count_bound_days
+from treatyforce.stretches import first_bound_day
+from treatyforce.stretches import first_free_day
+from treatyforce.stretches import fullest_row
 
 MOST_STATES = 10
 MOST_WAIT = 365
@@ -30,12 +40,8 @@ NOTICE_RUNS = -16
 ALREADY_SO = -17
 NOT_AS_TOLD = -22
 FULL = -28
-NEVER_ENOUGH = -33
+NO_DAY = -33
 NO_END = -61
-
-
-class CallNotBuilt(Exception):
-    pass
 
 
 def are_terms(n, need, named, wait, notice, floor):
@@ -49,24 +55,23 @@ def are_terms(n, need, named, wait, notice, floor):
 def fo_start(treaty, given):
     if not are_terms(given[0], given[1], given[2], given[3], given[4], given[5]):
         return [NOT_AS_TOLD]
-    treaty.n = given[0]
-    treaty.need = given[1]
-    treaty.named = given[2]
-    treaty.wait = given[3]
-    treaty.notice = given[4]
-    treaty.floor = given[5]
+    set_terms(treaty, given)
     treaty.deeds = []
     return [0]
 
 
-def deed_refusal(treaty, i, d):
-    if i >= treaty.n:
-        return NONE_THERE
+def day_refusal(treaty, d):
     if d > LATEST_DAY:
         return NOT_AS_TOLD
     if last_day(treaty) > d:
         return LATER_DONE
     return NO_REFUSAL
+
+
+def deed_refusal(treaty, i, d):
+    if i >= treaty.n:
+        return NONE_THERE
+    return day_refusal(treaty, d)
 
 
 def fo_ratify(treaty, given):
@@ -106,13 +111,13 @@ def fo_notice(treaty, given):
 def fo_day(treaty, given):
     start = force_day(treaty)
     if start is None:
-        return [NEVER_ENOUGH]
+        return [NO_DAY]
     return [start]
 
 
 def fo_ends(treaty, given):
     if force_day(treaty) is None:
-        return [NEVER_ENOUGH]
+        return [NO_DAY]
     end = end_day(treaty)
     if end is None:
         return [NO_END]
@@ -142,11 +147,102 @@ def fo_lacks(treaty, given):
     return [max(0, treaty.need - len(states)), missing]
 
 
-# A list can only be parted into calls if the length of each is known, so all 18 of the interface stand here.
+def fo_since(treaty, given):
+    i = given[0]
+    if i >= treaty.n:
+        return [NONE_THERE]
+    since = first_bound_day(bound_rows(treaty), i)
+    if since is None:
+        return [NO_DAY]
+    return [since]
+
+
+def fo_until(treaty, given):
+    i = given[0]
+    if i >= treaty.n:
+        return [NONE_THERE]
+    rows = bound_rows(treaty)
+    since = first_bound_day(rows, i)
+    if since is None:
+        return [NO_DAY]
+    until = first_free_day(rows, i, since)
+    if until is None:
+        return [NO_END]
+    return [until]
+
+
+def would_refusal(treaty, s, d):
+    if s >= 1 << treaty.n:
+        return NOT_AS_TOLD
+    refusal = day_refusal(treaty, d)
+    if refusal != NO_REFUSAL:
+        return refusal
+    if any([is_in_set(s, i) and is_on_notice(treaty, i, d) for i in range(treaty.n)]):
+        return NOTICE_RUNS
+    return NO_REFUSAL
+
+
+def fo_would(treaty, given):
+    s = given[0]
+    d = given[1]
+    refusal = would_refusal(treaty, s, d)
+    if refusal != NO_REFUSAL:
+        return [refusal]
+    have = ratified_states(treaty, d)
+    joining = [i for i in range(treaty.n) if is_in_set(s, i) and i not in have]
+    return fo_day(ratified_besides(treaty, joining, d), [])
+
+
+def fo_fewest(treaty, given):
+    d = given[0]
+    refusal = day_refusal(treaty, d)
+    if refusal != NO_REFUSAL:
+        return [refusal]
+    if force_day(treaty) is not None:
+        return [ALREADY_SO]
+    states = fewest_lacking(treaty, d)
+    return [len(states), set_number(states)]
+
+
+def fo_days(treaty, given):
+    i = given[0]
+    if i >= treaty.n:
+        return [NONE_THERE]
+    return [count_bound_days(bound_rows(treaty), i, LATEST_DAY)]
+
+
+def fo_most(treaty, given):
+    if len(treaty.deeds) == 0:
+        return [NO_DAY]
+    row = fullest_row(bound_rows(treaty))
+    return [len(row[1]), row[0]]
+
+
+def fo_event(treaty, given):
+    k = given[0]
+    if k >= len(treaty.deeds):
+        return [NONE_THERE]
+    deed = treaty.deeds[k]
+    return [1 if deed.ratified else 0, deed.state, deed.day]
+
+
+def fo_back(treaty, given):
+    if len(treaty.deeds) == 0:
+        return [NONE_THERE]
+    treaty.deeds.pop()
+    return [len(treaty.deeds)]
+
+
+def fo_state(treaty, given):
+    return [len(treaty.deeds)] + terms_of(treaty) + [last_day(treaty)]
+
+
+# How many whole numbers each call is given, at the place of its number in the interface.
 WIDTHS = (6, 2, 2, 0, 0, 2, 1, 1, 1, 1, 1, 2, 1, 1, 0, 1, 0, 0)
 
 # Each stands at the place of its number in the interface.
-CALLS = (fo_start, fo_ratify, fo_notice, fo_day, fo_ends, fo_bound, fo_parties, fo_ratified, fo_lacks)
+CALLS = (fo_start, fo_ratify, fo_notice, fo_day, fo_ends, fo_bound, fo_parties, fo_ratified, fo_lacks,
+         fo_since, fo_until, fo_would, fo_fewest, fo_days, fo_most, fo_event, fo_back, fo_state)
 
 
 def split_calls(calls):
@@ -159,17 +255,11 @@ def split_calls(calls):
     return parts
 
 
-def answer_call(treaty, number, given):
-    if number >= len(CALLS):
-        raise CallNotBuilt(f"call {number}")
-    return CALLS[number](treaty, given)
-
-
 def answers(calls):
     treaty = Treaty()
     told = []
-    for part in split_calls(calls):
-        answer = answer_call(treaty, part[0], part[1])
+    for number, given in split_calls(calls):
+        answer = CALLS[number](treaty, given)
         told.append(len(answer))
         told.extend(answer)
     return told
